@@ -1,0 +1,1 @@
+"""Water shared in a drought."""
