@@ -110,7 +110,7 @@ def answer_sure(drought, numbers, row):
     return [DONE] + flat([sure, got])
 
 
-ANSWERS = (
+BY_CALL = (
     answer_sharing,
     answer_water,
     answer_claim,
@@ -126,7 +126,7 @@ ANSWERS = (
 def answer(drought, call, numbers, row):
     if call != SHARING and len(drought.parties) == 0:
         return [NO_SHARING]
-    return ANSWERS[call](drought, numbers, row)
+    return BY_CALL[call](drought, numbers, row)
 
 
 def answers(calls):
