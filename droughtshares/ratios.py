@@ -46,6 +46,13 @@ def greater(left, right):
     return right if at_most(left, right) else left
 
 
+def least_of(ratios):
+    least = ratios[0]
+    for each in ratios:
+        least = lesser(least, each)
+    return least
+
+
 def total(ratios):
     summed = whole(0)
     for each in ratios:

@@ -118,16 +118,17 @@ def mean_taken(amount, claim, others):
     """What one takes in the mean over all orders.
 
     What it takes hangs only on who came before it, so each such set counts
-    as often as there are orders with it, and 8 members need no 40320 orders.
+    as often as there are orders with it, and 9 members need no 362880 orders.
     """
     upper = amount[0]
     lower = amount[1]
+    count = len(others)
+    orders = [factorial(size) * factorial(count - size) for size in range(count + 1)]
     summed = 0
     for size, claimed in sets_of(others):
-        orders = factorial(size) * factorial(len(others) - size)
         left = max(0, upper - claimed * lower)
-        summed = summed + orders * min(claim * lower, left)
-    return ratio(summed, lower * factorial(len(others) + 1))
+        summed = summed + orders[size] * min(claim * lower, left)
+    return ratio(summed, lower * factorial(count + 1))
 
 
 def by_chance(amount, claims):
@@ -149,6 +150,9 @@ def by_order(amount, claims):
 
 
 def shares_by(rule, amount, claims, weights):
+    # Where a group's only member has left there is nobody to find a level for.
+    if len(claims) == 0:
+        return []
     if rule == PARTS:
         return by_parts(amount, claims)
     if rule == CHANCE:

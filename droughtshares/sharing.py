@@ -1,8 +1,11 @@
 """The calls on a sharing, and their answers."""
 
-from droughtshares.parties import all_claims, all_shares, got_together, group_proof, sure_of
+from droughtshares.parties import all_claims, all_shares, excesses, got_together, group_proof, sure_of, with_claim
+from droughtshares.ratios import least_of
 from droughtshares.reading import MOST_CLAIMED, read_sharing
 from droughtshares.rules import RULE_NAMES, has_level
+from droughtshares.supposing import least_water, share_as_two, shares_by_each_rule, shares_without
+from droughtshares.writing import write_sharing
 
 NO_SHARING = -9
 OUT_OF_RANGE = -1
@@ -13,7 +16,7 @@ MOST_WATER = 30000000
 
 SHARING = 0
 SURE = 8
-NUMBER_COUNTS = (0, 1, 2, 2, 0, 1, 0, 1, 1)
+NUMBER_COUNTS = (0, 1, 2, 2, 0, 1, 0, 1, 1, 1, 2, 3, 2, 2, 1, 2, 0, 0)
 
 
 class Drought:
@@ -31,6 +34,9 @@ class Drought:
 
     def has_group(self, number):
         return self.has_party(number) and self.parties[number].is_group()
+
+    def has_member(self, group, number):
+        return self.has_group(group) and number in self.parties[group].members
 
 
 def flat(ratios):
@@ -110,6 +116,67 @@ def answer_sure(drought, numbers, row):
     return [DONE] + flat([sure, got])
 
 
+def answer_core(drought, numbers, row):
+    if not drought.has_group(numbers[0]):
+        return [OUT_OF_RANGE]
+    found = excesses(drought.parties, drought.water, numbers[0])
+    return [DONE, len(found)] + list(least_of(found))
+
+
+def answer_leave(drought, numbers, row):
+    if not drought.has_member(numbers[0], numbers[1]):
+        return [OUT_OF_RANGE]
+    left = shares_without(drought.parties, drought.water, numbers[0], numbers[1])
+    told = [DONE, len(left)]
+    for member, share in left:
+        told.append(member)
+        told.extend(share)
+    return told
+
+
+def answer_split(drought, numbers, row):
+    if not drought.has_member(numbers[0], numbers[1]) or not drought.has_person(numbers[1]):
+        return [OUT_OF_RANGE]
+    if not 0 <= numbers[2] <= drought.parties[numbers[1]].claim:
+        return [OUT_OF_RANGE]
+    return [DONE] + list(share_as_two(drought.parties, drought.water, numbers[0], numbers[1], numbers[2]))
+
+
+def answer_if_water(drought, numbers, row):
+    if not drought.has_party(numbers[0]) or not 0 <= numbers[1] <= MOST_WATER:
+        return [OUT_OF_RANGE]
+    return [DONE] + list(all_shares(drought.parties, numbers[1])[numbers[0]])
+
+
+def answer_if_claim(drought, numbers, row):
+    if not drought.has_person(numbers[0]) or not 0 <= numbers[1] <= MOST_CLAIMED:
+        return [OUT_OF_RANGE]
+    supposed = with_claim(drought.parties, numbers[0], numbers[1])
+    return [DONE] + list(all_shares(supposed, drought.water)[numbers[0]])
+
+
+def answer_rules(drought, numbers, row):
+    if not drought.has_group(numbers[0]):
+        return [OUT_OF_RANGE]
+    return [DONE] + flat(shares_by_each_rule(drought.parties, drought.water, numbers[0]))
+
+
+def answer_least(drought, numbers, row):
+    if not drought.has_party(numbers[0]) or not 0 <= numbers[1] <= all_claims(drought.parties)[numbers[0]]:
+        return [OUT_OF_RANGE]
+    return [DONE, least_water(drought.parties, numbers[0], numbers[1])]
+
+
+def answer_print(drought, numbers, row):
+    written = write_sharing(drought.parties)
+    return [DONE, len(written)] + written
+
+
+def answer_counts(drought, numbers, row):
+    persons = [party for party in drought.parties if not party.is_group()]
+    return [DONE, len(drought.parties), len(persons), all_claims(drought.parties)[-1], drought.water]
+
+
 BY_CALL = (
     answer_sharing,
     answer_water,
@@ -120,6 +187,15 @@ BY_CALL = (
     answer_claims,
     answer_proof,
     answer_sure,
+    answer_core,
+    answer_leave,
+    answer_split,
+    answer_if_water,
+    answer_if_claim,
+    answer_rules,
+    answer_least,
+    answer_print,
+    answer_counts,
 )
 
 

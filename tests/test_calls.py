@@ -2,7 +2,10 @@
 
 import unittest
 
-from tests.helper import CLAIM, CLAIMS, PROOF, RULE, SHARE, SHARES, WATER, run, sharing, sure
+from tests.helper import (
+    CLAIM, CLAIMS, CORE, COUNTS, IFCLAIM, IFWATER, LEAST, LEAVE, PRINT, PROOF, RULE, RULES_OF, SHARE, SHARES, SPLIT,
+    WATER, run, sharing, sure,
+)
 
 # a 0, b 1, f 2 (parts), c 3, root 4 (even, in the order f c)
 TEXT = "person a claims 10\nperson b claims 30\ngroup f by parts of b a\nperson c claims 40\ngroup root by even of f c\n"
@@ -16,11 +19,16 @@ def after(*calls):
 
 class NoSharing(unittest.TestCase):
     def test_all_calls_but_sharing(self):
-        for call in ([WATER, 1], [CLAIM, 0, 1], [RULE, 0, 1], [SHARES], [SHARE, 0], [CLAIMS], [PROOF, 0], sure(0)):
+        for call in ([WATER, 1], [CLAIM, 0, 1], [RULE, 0, 1], [SHARES], [SHARE, 0], [CLAIMS], [PROOF, 0], sure(0),
+                     [CORE, 0], [LEAVE, 1, 0], [SPLIT, 1, 0, 0], [IFWATER, 0, 0], [IFCLAIM, 0, 0], [RULES_OF, 0],
+                     [LEAST, 0, 0], [PRINT], [COUNTS]):
             self.assertEqual(run(call), [[-9]], call)
+            self.assertEqual(run(call, sharing("x"), call), [[-9], [1, 1], [-9]], call)
 
     def test_counts_before_the_others(self):
-        for call in ([WATER, -1], [CLAIM, -1, -1], [RULE, HUGE, -HUGE], [SHARE, -HUGE], [PROOF, -1], sure(-1, 3, 3)):
+        for call in ([WATER, -1], [CLAIM, -1, -1], [RULE, HUGE, -HUGE], [SHARE, -HUGE], [PROOF, -1], sure(-1, 3, 3),
+                     [CORE, -1], [LEAVE, -1, HUGE], [SPLIT, -1, -HUGE, -1], [IFWATER, -1, 30000001],
+                     [IFCLAIM, -1, 1000001], [RULES_OF, HUGE], [LEAST, HUGE, -1]):
             self.assertEqual(run(call), [[-9]], call)
 
     def test_a_wrong_text_makes_none(self):

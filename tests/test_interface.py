@@ -7,13 +7,22 @@ import unittest
 from unittest import mock
 
 from droughtshares.sharing import answers
-from tests.helper import CLAIM, CLAIMS, PROOF, RULE, RULES, SHARES, WATER, run, sharing, sure
+from tests.helper import (
+    CLAIM, CLAIMS, CORE, COUNTS, IFCLAIM, IFWATER, LEAST, LEAVE, PRINT, PROOF, RULE, RULES, RULES_OF, SHARE, SHARES,
+    SPLIT, WATER, run, sharing, sure,
+)
 
 TEXT = "person a claims 10\nperson b claims 30\ngroup g by even of a b\n"
 CALLS = (sharing(TEXT) + [WATER, 15, SHARES, RULE, 2, 2, PROOF, 2, CLAIM, 0, 3, CLAIMS] + sure(2) + sure(2, 0)
-         + sharing("x") + [WATER, -1])
+         + sharing("x") + [WATER, -1]
+         + [WATER, 11, CORE, 2, LEAVE, 2, 0, SPLIT, 2, 1, 7, IFWATER, 1, 32, IFCLAIM, 0, 30, RULES_OF, 2, LEAST, 1, 1]
+         + [PRINT, COUNTS, SHARE, 1])
+PRINTED = list(b"person a claims 3\nperson b claims 30\ngroup g by losses of a b\n")
 GIVEN = [3, 0, 3, 40, 1, 0, 7, 0, 15, 2, 15, 2, 15, 1, 1, 0, 4, 0, 1, 15, 1, 1, 0, 4, 0, 3, 30, 33, 5, 0, 0, 1, 0, 1,
-         5, 0, 0, 1, 0, 1, 2, 1, 1, 1, -1]
+         5, 0, 0, 1, 0, 1, 2, 1, 1, 1, -1,
+         1, 0, 4, 0, 4, 0, 1, 5, 0, 1, 1, 11, 1, 3, 0, 11, 1, 3, 0, 59, 2, 3, 0, 11, 2,
+         25, 0, 1, 1, 10, 1, 3, 1, 8, 1, 0, 1, 11, 1, 3, 2, 19, 2, 3, 2, 19, 2, 3, 1, 8, 1, 2, 0, 1]
+GIVEN += [2 + len(PRINTED), 0, len(PRINTED)] + PRINTED + [5, 0, 3, 2, 33, 11, 3, 0, 11, 1]
 
 
 class Untouched(list):

@@ -3,10 +3,11 @@
 import random
 import unittest
 from fractions import Fraction
+from itertools import permutations
 
 from tests.helper import (
     CLAIM, CLAIMS, PROOF, RULE, RULES, SHARE, SHARES, WATER, as_fractions, proven, run, shared, sharing,
-    told_parties, told_proof, told_shares,
+    told_all, told_order, told_parties, told_shares,
 )
 
 OLD = (100, 200, 300)
@@ -120,8 +121,10 @@ class Chance(unittest.TestCase):
 
     def test_eight_members(self):
         claims = [3, 17, 40, 41, 100, 5, 0, 64]
-        told = [str(share) for share in told_shares("chance", Fraction(111), claims, [1] * 8)]
-        self.assertEqual(shared("chance", 111, claims), told)
+        runs = [told_order(Fraction(111), claims, order) for order in permutations(range(8))]
+        told = [sum(column) / len(runs) for column in zip(*runs)]
+        self.assertEqual(shared("chance", 111, claims), [str(share) for share in told])
+        self.assertEqual(told_shares("chance", Fraction(111), claims, [1] * 8), told)
 
 
 class Order(unittest.TestCase):
@@ -151,24 +154,6 @@ class All(unittest.TestCase):
         for rule in RULES:
             self.assertEqual(shared(rule, 4000004, (1000000,) * 8), ["1000001/2"] * 8 if rule != "order"
                              else ["1000000"] * 4 + ["4", "0", "0", "0"], rule)
-
-
-def told_all(parties, water):
-    """Each party's claim and share, by the second reckoning."""
-    claims = {}
-    for name, weight, claim, rule, members in parties:
-        claims[name] = sum([claims[member] for member in members]) if members else claim
-    weights = {party[0]: party[1] for party in parties}
-    shares = {parties[-1][0]: Fraction(min(water, claims[parties[-1][0]]))}
-    proofs = {}
-    for name, weight, claim, rule, members in reversed(parties):
-        if members:
-            given = (shares[name], [claims[member] for member in members], [weights[member] for member in members])
-            shares.update(zip(members, told_shares(rule, *given)))
-            if rule in ("even", "losses", "halves"):
-                proofs[name] = told_proof(rule, *given)
-    names = [party[0] for party in parties]
-    return ([claims[name] for name in names], [shares[name] for name in names], proofs)
 
 
 class Nested(unittest.TestCase):
